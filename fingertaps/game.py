@@ -8,9 +8,15 @@ RULES = 0
 STAND = 1
 TURNS = 2
 TAKE = 3
+WORTH = 4
+GOOD = 5
+PLAY = 6
+KINDS = 7
 
-# How many numbers a call has behind its own, by the call's number; the last one is worth.
-NUMBERS_BEHIND = (3, 4, 0, 1, 0)
+# How many numbers a call has behind its own, by the call's number; the last one is hardest.
+NUMBERS_BEHIND = (3, 4, 0, 1, 0, 0, 1, 0, 0)
+
+MOST_PLAYED = 50
 
 OUT_OF_BOUNDS = -1
 NO_SUCH_TURN = -2
@@ -151,6 +157,21 @@ def settled_stands(full, over, shares):
     return settled
 
 
+def outcome_of(stand, settled):
+    """Worth and length of any stand."""
+    return settled.get(stand, (FOR_EVER, 0))
+
+
+def outcome_by_good_turns(outcome):
+    """Worth and length of the stands to which good turns lead, from one of this worth and length."""
+    # A length is one more than that of the least of the lost or the greatest of the won behind it.
+    if outcome[0] == WON:
+        return (LOST, outcome[1] - 1)
+    if outcome[0] == LOST:
+        return (WON, outcome[1] - 1)
+    return outcome
+
+
 class Game:
     """One game: its rules, and the stand now. Each call answers a list of numbers."""
 
@@ -165,6 +186,15 @@ class Game:
 
     def stands_behind(self):
         return stands_by_turns(self.now, self.full, self.over, self.shares)
+
+    def settled_by_rules(self):
+        return settled_stands(self.full, self.over, self.shares)
+
+    def good_turns(self, settled):
+        """The numbers of the good turns, rising."""
+        sought = outcome_by_good_turns(outcome_of(self.now, settled))
+        stands = self.stands_behind()
+        return [k for k in range(len(stands)) if outcome_of(stands[k], settled) == sought]
 
     def rules(self, full, over, shares):
         if full < 3 or full > 7 or over > 1 or shares > 2:
@@ -195,8 +225,37 @@ class Game:
         return [len(self.stands_behind())]
 
     def worth(self):
-        settled = settled_stands(self.full, self.over, self.shares)
-        return list(settled.get(self.now, (FOR_EVER, 0)))
+        return list(outcome_of(self.now, self.settled_by_rules()))
+
+    def good(self):
+        numbers = self.good_turns(self.settled_by_rules())
+        return [len(numbers)] + numbers
+
+    def play(self, n):
+        if n < 1 or n > MOST_PLAYED:
+            return [OUT_OF_BOUNDS]
+        settled = self.settled_by_rules()
+        taken = 0
+        while taken < n:
+            numbers = self.good_turns(settled)
+            # Only a stand that's over and done has no good turn.
+            if len(numbers) == 0:
+                break
+            self.now = self.stands_behind()[numbers[0]]
+            taken = taken + 1
+        return [taken, outcome_of(self.now, settled)[0]]
+
+    def kinds(self):
+        settled = self.settled_by_rules()
+        together = len(all_stands(self.full))
+        won = len([stand for stand in settled if settled[stand][0] == WON])
+        return [together, won, len(settled) - won, together - len(settled)]
+
+    def hardest(self):
+        settled = self.settled_by_rules()
+        greatest = max([settled[stand][1] for stand in settled if settled[stand][0] == WON])
+        first = min([stand for stand in settled if settled[stand] == (WON, greatest)])
+        return [greatest] + list(first)
 
 
 def answer_of(game, call, numbers):
@@ -209,7 +268,15 @@ def answer_of(game, call, numbers):
         return game.turns()
     if call == TAKE:
         return game.take(numbers[0])
-    return game.worth()
+    if call == WORTH:
+        return game.worth()
+    if call == GOOD:
+        return game.good()
+    if call == PLAY:
+        return game.play(numbers[0])
+    if call == KINDS:
+        return game.kinds()
+    return game.hardest()
 
 
 def answers(calls):

@@ -3,6 +3,8 @@
 The reckoning follows the document's words and takes nothing from the package but `answers`.
 """
 
+import functools
+
 from fingertaps.game import answers
 
 MOST = 4294967295
@@ -26,6 +28,15 @@ def take(k):
 
 
 WORTH = [4]
+GOOD = [5]
+
+
+def play(n):
+    return [6, n]
+
+
+KINDS = [7]
+HARDEST = [8]
 
 
 def ask(*calls):
@@ -48,6 +59,8 @@ def every_stand(full):
     return [own + others for own in hands for others in hands if others != (0, 0)]
 
 
+# What is kept here and below many tests ask for; nobody changes what it gives back.
+@functools.cache
 def turns_by_words(now, full, over, shares):
     own, others = now[:2], now[2:]
     taps = []
@@ -69,6 +82,7 @@ def turns_by_words(now, full, over, shares):
     return list(dict.fromkeys(taps)) + [others + hands for hands in sorted(shared)]
 
 
+@functools.cache
 def worths_by_words(full, over, shares):
     """Worth and length of every stand: first which are won and lost, then how long each lasts."""
     turns = {now: turns_by_words(now, full, over, shares) for now in every_stand(full)}
@@ -103,3 +117,37 @@ def lengths_by_words(turns, worth):
                 length[now] = found
                 changed = True
     return length
+
+
+@functools.cache
+def good_by_words(now, full, over, shares):
+    """The numbers of the good turns of a stand, rising."""
+    known = worths_by_words(full, over, shares)
+    behind = [known[one] for one in turns_by_words(now, full, over, shares)]
+    if known[now][0] == 0:
+        return [k for k, (worth, length) in enumerate(behind) if worth == 0]
+    if known[now][0] == 1:
+        least = min(length for worth, length in behind if worth == 2)
+        return [k for k, one in enumerate(behind) if one == [2, least]]
+    greatest = max((length for worth, length in behind), default=0)
+    return [k for k, one in enumerate(behind) if one == [1, greatest]]
+
+
+def play_by_words(now, n, full, over, shares):
+    """How many turns were taken, and the stand then."""
+    taken = 0
+    while taken < n and now[:2] != (0, 0):
+        now = turns_by_words(now, full, over, shares)[good_by_words(now, full, over, shares)[0]]
+        taken += 1
+    return taken, now
+
+
+def kinds_by_words(full, over, shares):
+    worths = [worth for worth, length in worths_by_words(full, over, shares).values()]
+    return [len(worths), worths.count(1), worths.count(2), worths.count(0)]
+
+
+def hardest_by_words(full, over, shares):
+    won = [(-length, now) for now, (worth, length) in worths_by_words(full, over, shares).items() if worth == 1]
+    length, now = sorted(won)[0]
+    return [-length, *now]

@@ -5,7 +5,7 @@ import io
 import unittest
 
 from fingertaps.game import answers
-from tests.reckoning import MOST
+from tests.reckoning import GOOD, HARDEST, KINDS, MOST, TURNS, WORTH, kinds_by_words, play, rules, stand, take
 
 
 class Watched(list):
@@ -18,7 +18,16 @@ class Watched(list):
     __setitem__ = __delitem__ = __iadd__ = __imul__ = refuse
 
 
-LONG = [4, 2, 3, 1, 1, 3, 1, 2, 4, 2, 4, 0, 7, 1, 2, 2, 3, 9, 1, 6, 5, 0, 0, 0, 9, 9, 9, 3, MOST, 4, 2, 3, 0, 4]
+def one_list(*calls):
+    return [number for call in calls for number in call]
+
+
+# All nine calls, and each refusal.
+LONG = [
+    one_list(WORTH, TURNS, take(1), stand(3, 1, 2, 4), TURNS, GOOD, rules(7, 1, 2), TURNS, take(9), play(7), TURNS,
+             stand(6, 5, 0, 0), stand(7, 5, 1, 0), rules(9, 9, 9), take(MOST), KINDS, TURNS, take(0), HARDEST),
+    one_list(HARDEST, rules(6, 0, 1), KINDS, stand(0, 5, 1, 4), play(0), TURNS, play(MOST), take(1), play(50), TURNS),
+]
 
 
 class Form(unittest.TestCase):
@@ -28,21 +37,29 @@ class Form(unittest.TestCase):
         self.assertEqual(answers([2]), [9, 2, 2, 1, 1, 1, 1, 1, 2, 0])
         self.assertEqual(answers([3, 0]), [1, 3])
         self.assertEqual(answers([0, 5, 1, 0, 1, 1, 0, 2, 0, 4]), [1, 0, 1, 1, 2, 0, 0])
+        self.assertEqual(answers([0, 5, 0, 0, 1, 2, 1, 4, 1, 5]), [1, 0, 1, 3, 3, 2, 0, 2])
+        self.assertEqual(answers([1, 0, 0, 1, 1, 5, 6, 1]), [1, 0, 1, 0, 2, 0, 2])
+        self.assertEqual(answers([0, 5, 1, 0, 1, 1, 0, 2, 0, 6, 50]), [1, 0, 1, 1, 2, 50, 0])
+        self.assertEqual(answers([7]), [4] + kinds_by_words(5, 0, 2))
+        self.assertEqual(answers([0, 6, 0, 2, 8]), [1, 0, 5, 41, 3, 1, 5, 3])
 
     def test_a_refusal_is_alone(self):
         self.assertEqual(answers([0, 2, 0, 0]), [1, -1])
         self.assertEqual(answers([1, 5, 1, 1, 1]), [1, -1])
         self.assertEqual(answers([1, 1, 1, 0, 0]), [1, -3])
         self.assertEqual(answers([3, 2]), [1, -2])
+        self.assertEqual(answers([6, 0]), [1, -1])
+        self.assertEqual(answers([6, 51]), [1, -1])
 
     def test_calls_one_behind_another(self):
         calls = [3, 1, 3, 9, 0, 4, 0, 0, 1, 0, 0, 3, 3, 2, 1, 3, 3, 1, 1, 2]
         self.assertEqual(answers(calls), [1, 2, 1, -2, 1, 0, 1, 0, 1, 0, 1, 1, 5, 1, 1, 0, 3, 3])
 
     def test_a_list_of_whole_numbers(self):
-        given = answers(LONG)
-        self.assertIs(type(given), list)
-        self.assertEqual({type(number) for number in given}, {int})
+        for calls in LONG:
+            given = answers(calls)
+            self.assertIs(type(given), list)
+            self.assertEqual({type(number) for number in given}, {int})
 
     def test_forty_calls(self):
         self.assertEqual(answers([2] * 40), [9, 2, 2, 1, 1, 1, 1, 1, 2, 0] * 40)
@@ -50,24 +67,29 @@ class Form(unittest.TestCase):
 
 class NothingChangedOrKept(unittest.TestCase):
     def test_the_list_handed_in_stays_as_it_was(self):
-        calls = Watched(LONG)
-        answers(calls)
-        self.assertEqual(list(calls), LONG)
+        for line in LONG:
+            calls = Watched(line)
+            self.assertEqual(answers(calls), answers(list(line)))
+            self.assertEqual(list(calls), line)
 
     def test_a_second_time_answers_as_the_first(self):
-        first = answers(LONG)
-        wanted = list(first)
-        self.assertEqual(answers(LONG), wanted)
-        first.clear()
-        self.assertEqual(answers(LONG), wanted)
+        first = [answers(calls) for calls in LONG]
+        wanted = [list(given) for given in first]
+        self.assertEqual([answers(calls) for calls in LONG], wanted)
+        for given in first:
+            given.clear()
+        self.assertEqual([answers(calls) for calls in reversed(LONG)], wanted[::-1])
 
     def test_a_game_is_new_each_time(self):
         answers([0, 7, 1, 0, 1, 6, 5, 4, 3])
         self.assertEqual(answers([2]), [9, 2, 2, 1, 1, 1, 1, 1, 2, 0])
+        answers([0, 7, 1, 0, 6, 50, 7, 8])
+        self.assertEqual(answers([7]), [4] + kinds_by_words(5, 0, 2))
 
     def test_nothing_is_printed(self):
         with contextlib.redirect_stdout(io.StringIO()) as out, contextlib.redirect_stderr(io.StringIO()) as err:
-            answers(LONG)
+            for calls in LONG:
+                answers(calls)
         self.assertEqual(out.getvalue() + err.getvalue(), "")
 
 

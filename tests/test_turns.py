@@ -1,10 +1,8 @@
 """Promise 3: turns and take."""
 
-import random
 import unittest
 
-from tests.reckoning import (ALL_RULES, FIRST_RULES, MOST, TURNS, WORTH, ask, every_stand, rules, stand, take,
-                             told, turns_by_words)
+from tests.reckoning import ALL_RULES, MOST, TURNS, WORTH, ask, every_stand, rules, stand, take, turns_by_words
 
 
 def turns_of(numbers, hands):
@@ -124,47 +122,6 @@ class Take(unittest.TestCase):
         given = ask(TURNS, TURNS, take(0), TURNS, TURNS)
         self.assertEqual(given[0], given[1])
         self.assertEqual(given[3], given[4])
-
-
-class Lines(unittest.TestCase):
-    def test_lines_of_forty_calls_against_the_reckoning(self):
-        source = random.Random(20)
-        for number in range(300):
-            calls, wanted = self.line(source)
-            with self.subTest(number=number, calls=calls):
-                self.assertEqual(ask(*calls), wanted)
-
-    def line(self, source):
-        numbers, now = FIRST_RULES, (1, 1, 1, 1)
-        calls, wanted = [], []
-        for _ in range(40):
-            stands = turns_by_words(now, *numbers)
-            choice = source.randrange(10)
-            if choice == 0:
-                asked = (source.randint(2, 8), source.randint(0, 2), source.randint(0, 3))
-                fits = asked in ALL_RULES
-                calls.append(rules(*asked))
-                wanted.append([0 if fits else -1])
-                if fits:
-                    numbers, now = asked, (1, 1, 1, 1)
-            elif choice == 1:
-                hands = tuple(source.randrange(numbers[0]) for _ in range(4))
-                calls.append(stand(*hands))
-                if hands[2:] == (0, 0):
-                    wanted.append([-3])
-                else:
-                    now = told(hands[:2]) + told(hands[2:])
-                    wanted.append([len(turns_by_words(now, *numbers))])
-            elif choice < 5:
-                calls.append(TURNS)
-                wanted.append([len(stands)] + [n for one in stands for n in one])
-            else:
-                k = source.randint(0, len(stands))
-                calls.append(take(k))
-                if k < len(stands):
-                    now = stands[k]
-                wanted.append([len(turns_by_words(now, *numbers))] if k < len(stands) else [-2])
-        return calls, wanted
 
 
 if __name__ == "__main__":
